@@ -3,6 +3,7 @@ package lock
 import (
 	"fmt"
 	"math"
+	"slices"
 	"testing"
 
 	"bellrope/act"
@@ -133,13 +134,17 @@ func TestP1404Laws(t *testing.T) {
 		m := cell.New(9)
 		var write api.Routine
 		var read *Read
-		n, quiet, tries := uint32(0), false, 0
+		var written []bool // for each try, whether a write was in progress during it
+		n := uint32(0)
 		for range 100 {
 			x = x*1664525 + 1013904223
 			if x>>20%4 == 0 {
 				if write == nil {
 					n++
 					write = NewWrite(p, api.Value{n, n, n})
+				}
+				if read != nil && read.Tries() > 0 && len(written) == read.Tries() {
+					written[len(written)-1] = true
 				}
 				one(m, write)
 				if _, ok := write.Result(); ok {
@@ -148,19 +153,17 @@ func TestP1404Laws(t *testing.T) {
 				continue
 			}
 			if read == nil {
-				read, quiet, tries = NewRead(p, int(x>>8%4)), false, 0
+				read, written = NewRead(p, int(x>>8%4)), nil
 			}
-			before, _ := m.Load(2)
 			one(m, read)
-			if read.Tries() > tries {
-				// A try that begins and ends with the same even counter saw no write.
-				tries, quiet = read.Tries(), false
+			if read.Tries() > len(written) {
+				written = append(written, write != nil)
 			}
 			res, ok := read.Result()
 			if ok && res.F == api.OK {
 				is(t, "complete", told(res.V, res.V[0] <= n), told(api.Value{res.V[0], res.V[0], res.V[0]}, true))
 			} else if ok {
-				is(t, "busy only with a write", told(res.F, n > 0, quiet, before%2 == 1 || before != read.seq), told(api.Busy, true, false, true))
+				is(t, "busy only with writes", told(res.F, slices.Contains(written, false)), told(api.Busy, false))
 			}
 			if ok {
 				read = nil
