@@ -81,7 +81,7 @@ func (s *source) code(c api.Config, ctx, n int) []api.Call {
 
 // call returns any call.
 func (s *source) call(c api.Config) api.Call {
-	x := api.Call{Kind: 1 + s.below(api.Exit), Obj: s.below(len(c.Objects) + 1), N: uint32(s.pick(0, 1, 1, 2, 3, 6, api.Forever))}
+	x := api.Call{Kind: s.below(api.Exit + 2), Obj: s.below(len(c.Objects) + 1), N: uint32(s.pick(0, 1, 1, 2, 3, 6, api.Forever))}
 	if x.Kind == api.Exit && s.below(4) > 0 {
 		x.Kind = api.Await
 	}
