@@ -38,6 +38,7 @@ func TestP4001OfWorst(t *testing.T) {
 	is(t, "fewer steps", told(Of(l, 4), Of(l, 3), Of(l, 0), Of(l, -1), Of(l, math.MinInt)), told([]Gap{{0, 3, 1, 2, 2}, {4, 4, 0, 0, 0}}, []Gap{{0, 3, 1, 2, 2}}, []Gap{{}}, []Gap{{}}, []Gap{{}}))
 	is(t, "none", told(Of(nil, 0), Of(nil, 5), Of(nil, 1<<31)), told([]Gap{{}}, []Gap{{0, 5, 0, 0, 5}}, []Gap{{0, 1 << 31, 0, 0, 1 << 31}}))
 	is(t, "any steps", Of([]core.Event{event(-3, 0, core.Does), event(math.MaxInt, 0, core.Does), event(math.MinInt, 0, 0)}, 2), []Gap{{0, 2, 0, 0, 2}})
+	is(t, "far apart, in any order", Of([]core.Event{event(1<<40, 1, core.Does), event(7, -1, core.Begins), event(1<<39, api.Drain, core.Does), event(7, -1, core.Begins)}, 1<<41), []Gap{{0, 1 << 40, 1, 2, 1<<40 - 1}, {1<<40 + 1, 1 << 41, 0, 0, 1<<40 - 1}})
 	is(t, "Worst", told(Worst([]Gap{{Zero: 1}, {From: 1, Zero: 4}, {From: 2, Zero: 4}}), Worst(nil), Worst([]Gap{{From: 3}})), told(Gap{From: 1, Zero: 4}, Gap{}, Gap{From: 3}))
 }
 
