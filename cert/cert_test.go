@@ -68,6 +68,8 @@ func TestP2002Check(t *testing.T) {
 	is(t, "State first", told(check(apart, 1, 0, 2), check(apart, 0, 1, 2)), told("1 15", "1 2"))
 	far := []api.Op{op(api.Set, 0, 0, 0, 0, 1), op(api.Set, 0, 0, 0, 9, 9), op(api.Set, 0, 0, 0, 1, 8)}
 	is(t, "not only the one ahead", told(check(far, 1, 2, 0), check(far, 2, 1, 0), check(far, 2, 0, 1)), told("1 15", "2 15", "0 0"))
+	under := []api.Op{op(api.Set, 0, 0, 0, 9, 9), op(api.Set, 0, 0, 0, 5, 12), op(api.Set, 0, 0, 0, 6, 7)}
+	is(t, "behind one that began earlier", told(check(under, 0, 1, 2), check(under, 1, 0, 2), check(under, 1, 2, 0)), told("2 15", "2 15", "0 0"))
 	open := append(overlapping(), api.Op{Call: api.Call{Kind: api.Recv}, Begin: 0}, api.Op{Call: api.Call{Kind: api.Send, V: api.Value{5}}, Begin: 20})
 	is(t, "not done", told(check(open, 0, 1), check(open, 0, 2, 1), check(open, 2, 0, 1), check(open, 3, 1, 0), check(open, 0, 3, 1)), told("0 0", "2 2", "0 0", "1 15", "2 15"))
 	is(t, "not done, without a result", check([]api.Op{{Call: api.Call{Kind: 99}}, op(api.Send, 1, 0, 0, 0, 0)}, 0, 1), "0 0")

@@ -7,6 +7,7 @@ import (
 
 	"bellrope/api"
 	"bellrope/core"
+	"bellrope/drain"
 	"bellrope/gauss"
 	"bellrope/rotor"
 	"bellrope/sample"
@@ -94,6 +95,24 @@ func TestP4303Theorem(t *testing.T) {
 	for _, f := range []api.Fault{api.OK, api.BadArg, api.Missing, api.Full, api.Empty, api.Timeout, api.Owner, api.Context, api.Kind} {
 		is(t, fmt.Sprint("fault ", f), sum.Faults[f] > 0, true)
 	}
+}
+
+func TestConditions(t *testing.T) {
+	asked := 0
+	yes, no := func() bool { asked++; return true }, func() bool { asked++; return false }
+	is(t, "all", told(all(nil), all([]func() bool{yes, yes}), all([]func() bool{yes, no, yes}), asked), told(true, true, false, 4))
+	c := one()
+	x, _ := core.Run(c, make([]int, 9))
+	r := &run{config: c, choices: make([]int, 9), events: x.Events(), steps: x.Steps()}
+	ops := []api.Op{{Call: api.Call{Kind: api.Get}, Done: true, End: 1}}
+	is(t, "an order that is whole", told(all(r.clean(ops, []int{0})), all(r.clean(ops, nil))), told(true, false))
+	r.events = append(r.events, core.Event{Step: 99, Ctx: api.Drain, Kind: core.Zero, E: drain.Event{Kind: drain.Applies, Who: 1}})
+	is(t, "a record of no post", all(r.clean(ops, []int{0})), false)
+	n := &counter{}
+	for _, f := range []api.Fault{api.OK, api.State, 16, -1} {
+		n.count(core.Event{Kind: core.Ends, R: api.Result{F: f}})
+	}
+	is(t, "faults", told(n.report.Answered, n.report.Faults), told(4, [16]int{0: 1, 15: 1}))
 }
 
 func TestLongRun(t *testing.T) {

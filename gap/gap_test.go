@@ -38,6 +38,7 @@ func TestP4001OfWorst(t *testing.T) {
 	is(t, "fewer steps", told(Of(l, 4), Of(l, 3), Of(l, 0), Of(l, -1), Of(l, math.MinInt)), told([]Gap{{0, 3, 1, 2, 2}, {4, 4, 0, 0, 0}}, []Gap{{0, 3, 1, 2, 2}}, []Gap{{}}, []Gap{{}}, []Gap{{}}))
 	is(t, "none", told(Of(nil, 0), Of(nil, 5), Of(nil, 1<<31)), told([]Gap{{}}, []Gap{{0, 5, 0, 0, 5}}, []Gap{{0, 1 << 31, 0, 0, 1 << 31}}))
 	is(t, "any steps", Of([]core.Event{event(-3, 0, core.Does), event(math.MaxInt, 0, core.Does), event(math.MinInt, 0, 0)}, 2), []Gap{{0, 2, 0, 0, 2}})
+	is(t, "any events in a step", Of([]core.Event{event(1, -1, core.Does), event(1, 0, core.Does), event(2, -1, core.Does), event(2, api.Drain, core.Does)}, 4), []Gap{{0, 1, 0, 0, 1}, {2, 4, 1, 0, 1}})
 	is(t, "far apart, in any order", Of([]core.Event{event(1<<40, 1, core.Does), event(7, -1, core.Begins), event(1<<39, api.Drain, core.Does), event(7, -1, core.Begins)}, 1<<41), []Gap{{0, 1 << 40, 1, 2, 1<<40 - 1}, {1<<40 + 1, 1 << 41, 0, 0, 1<<40 - 1}})
 	is(t, "Worst", told(Worst([]Gap{{Zero: 1}, {From: 1, Zero: 4}, {From: 2, Zero: 4}}), Worst(nil), Worst([]Gap{{From: 3}})), told(Gap{From: 1, Zero: 4}, Gap{}, Gap{From: 3}))
 }
@@ -46,6 +47,8 @@ func TestP4002FitsRun(t *testing.T) {
 	c := some()
 	is(t, "Fits", told(Fits(c, Gap{Zero: 320}), Fits(c, Gap{Zero: 321}), Fits(c, Gap{Zero: 640, Handled: 1}), Fits(c, Gap{Zero: 641, Handled: 1}), Fits(c, Gap{Zero: math.MinInt}), Fits(c, Gap{Zero: math.MaxInt, Handled: math.MaxInt}), Fits(api.Config{}, Gap{Zero: 80})),
 		told(true, false, true, false, true, false, true))
+	first := func(l ...Gap) string { return fmt.Sprint(fit(c, l)) }
+	is(t, "first that does not fit", told(first(Gap{Zero: 320}, Gap{Zero: 321}, Gap{Zero: 999}), first(Gap{Zero: 320}), first()), told("1 false", "0 true", "0 true"))
 	run := func(c api.Config, choices []int) string { return fmt.Sprint(Run(c, choices)) }
 	is(t, "Run", told(run(c, make([]int, 100)), run(c, nil), run(api.Config{}, make([]int, 9))), told("0 true", "0 true", "0 true"))
 }
@@ -59,11 +62,16 @@ func TestP4003Left(t *testing.T) {
 }
 
 func TestP4004Reach(t *testing.T) {
-	reach := func(c api.Config, choices ...int) string { return fmt.Sprint(Reach(c, choices)) }
+	after := func(c api.Config, choices ...int) string { return fmt.Sprint(Reach(c, choices)) }
 	c := some()
 	// Level 2 takes 5 steps, level 0 behind it 7: Ask, Tick, a tick, three lines, the choice.
-	is(t, "Reach", told(reach(c), reach(c, 3), reach(c, 2), reach(c, 2, 0), reach(c, 3, 0)), told("0 true", "1 true", "12 true", "11 true", "0 true"))
-	is(t, "not valid", reach(api.Config{}, 0), "0 false")
+	is(t, "Reach", told(after(c), after(c, 3), after(c, 2), after(c, 2, 0), after(c, 3, 0)), told("0 true", "1 true", "12 true", "11 true", "0 true"))
+	is(t, "not valid", after(api.Config{}, 0), "0 false")
+	within := func(most int) string {
+		x, _ := core.Run(c, []int{2})
+		return fmt.Sprint(reach(x, most))
+	}
+	is(t, "limited", told(within(12), within(11), within(0)), told("12 true", "0 false", "0 false"))
 }
 
 func TestP4005Theorems(t *testing.T) {

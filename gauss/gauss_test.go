@@ -57,6 +57,7 @@ func TestP402Arithmetic(t *testing.T) {
 	is(t, "Add", two(Add(Num{1, 2}, Num{-3, 5})), "{-2 7} true")
 	is(t, "Add to the most", two(Add(Num{most - 1, 0}, Num{1, -most})), fmt.Sprint(Num{most, -most}, true))
 	is(t, "Add beyond", two(Add(Num{most, 0}, Num{1, 0})), "{0 0} false")
+	is(t, "Add brings nothing back", told(two(Add(Num{most + 1, 0}, Num{-5, 0})), two(Add(Num{0, -5}, Num{0, most + 1})), two(Sum(Num{most + 1, 0}, Num{-5, 0}))), told("{0 0} false", "{0 0} false", "{0 0} false"))
 	is(t, "Mul", two(Mul(Num{1, 2}, Num{3, -4})), "{11 2} true")
 	is(t, "Mul beyond", two(Mul(Num{1024, 1}, Num{1024, -1})), "{0 0} false")
 	is(t, "Mul far beyond", two(Mul(Num{most, most}, Num{most, -most})), "{0 0} false")

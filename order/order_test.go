@@ -103,6 +103,7 @@ func TestP4203Check(t *testing.T) {
 		{"without a result", []core.Event{begins(1, -1), applies(9, 1)}, "0 0"},
 		{"without a result, another level", []core.Event{begins(1, -1), applies(9, 2)}, "0 4"},
 		{"without a result, two", []core.Event{begins(1, -1), applies(9, 1), applies(10, 1)}, "0 4"},
+		{"not applied, and a step of task 0 follows", []core.Event{begins(1, -1), ends(5, -1, 0), {Step: 20, Kind: core.Does}}, "0 15"},
 		{"nothing", nil, "0 0"},
 	} {
 		is(t, c.what, check(c.l...), c.want)

@@ -61,6 +61,7 @@ func TestP2201Points(t *testing.T) {
 		{"Read, early", [][]api.Call{{call(api.Read, 1, 0)}}, make([]int, 3), "[-1]"},
 		{"Read, passed", [][]api.Call{{call(api.Write, 1, 5)}, {call(api.Read, 1, 0)}}, []int{0, 0, 0, 0, 1, 0, 1, 1, 1}, "[11 10]"},
 		{"Read, passed later", [][]api.Call{{call(api.Write, 1, 5)}, {call(api.Read, 1, 0)}}, []int{0, 0, 0, 0, 1, 1, 0, 1, 1}, "[13 12]"},
+		{"Read, the same pair is stored again", [][]api.Call{{call(api.Write, 1, 5), call(api.Write, 1, 6)}, {call(api.Read, 1, 0)}}, []int{0, 0, 0, 0, 0, 0, 0, 0, 0, 1, 0, 1, 1, 1}, "[9 17 25]"},
 		{"Read, passed too late", [][]api.Call{{call(api.Write, 1, 5)}, {call(api.Read, 1, 0)}}, []int{0, 0, 0, 0, 1, 1, 1, 0, 1}, "[15 13]"},
 	} {
 		is(t, c.what, points(c.threads, c.picks...), c.want)

@@ -69,6 +69,8 @@ func TestP2702Serve(t *testing.T) {
 	is(t, "Sleep 0", told(s.Serve(Request{Kind: api.Sleep}), s.Ready(), taken(s, 0), s.State(0)), told(0, []int{1, 0}, "{true 0 0} true", task.Ready))
 	is(t, "Sleep", told(s.Serve(Request{Kind: api.Sleep, Delay: 5, Obj: 3}), s.Ready(), taken(s, 0), s.State(0), left(s, 0), s.Waits()), told(0, []int{1}, nothing, task.Sleeps, "5 true", []int{}))
 	s = of(1)
+	is(t, "Sleep 1", told(s.Serve(Request{Kind: api.Sleep, Delay: 1}), left(s, 0), s.State(0)), told(0, "1 true", task.Sleeps))
+	s = of(1)
 	is(t, "Sleep forever", told(s.Serve(Request{Kind: api.Sleep, Delay: api.Forever}), left(s, 0), s.State(0)), told(0, "0 false", task.Sleeps))
 	for _, kind := range []int{api.SendWait, api.RecvWait, api.WaitAny, api.WaitAll, api.Await} {
 		s = of(1, 1)

@@ -7,6 +7,7 @@ import (
 
 	"bellrope/api"
 	"bellrope/core"
+	"bellrope/plan"
 	"bellrope/sample"
 )
 
@@ -130,9 +131,51 @@ func TestP3903Quiet(t *testing.T) {
 	}
 }
 
+// TestClauses: each clause, for cells that no run has.
+func TestClauses(t *testing.T) {
+	c := waiting(api.Call{Kind: api.WaitAny, Obj: 1, V: api.Value{2}, N: 9}, nil, nil)
+	p, _ := plan.Of(c)
+	x := to(c, 10)
+	is(t, "task 0 is due, task 1 waits", told(dueOf(x), Quiet(c, x)), told("0 true", 0))
+	first := func(due int, raises bool, change func(words []uint32)) int {
+		words := x.Words()
+		change(words)
+		s := &still{plan: p, seen: x.Seen(), sched: x.Sched(), due: due, raises: raises, word: func(at int) uint32 { return words[at] }}
+		return s.broken()
+	}
+	nothing := func([]uint32) {}
+	ask := func(task int) func([]uint32) { return func(w []uint32) { w[p.Ask[task]] = 1 } }
+	flag := func(w []uint32) { w[p.Places[1].At] = 6 }
+	is(t, "still", told(first(0, false, nothing), first(0, true, nothing), first(nobody, false, nothing)), told(0, 0, 0))
+	is(t, "lines", told(first(0, true, func(w []uint32) { w[p.Lines[0].Q.At]++; w[p.Tick]++ }), first(0, false, func(w []uint32) { w[p.Lines[0].Q.At+1]++ })), told(Lines, Lines))
+	is(t, "time", first(0, true, func(w []uint32) { w[p.Tick]++; flag(w) }), Time)
+	is(t, "waits", told(first(0, false, flag), first(0, true, flag)), told(Waits, 0))
+	is(t, "asks", told(first(0, true, ask(0)), first(0, false, ask(0)), first(0, true, ask(1)), first(1, true, ask(1)), first(nobody, false, ask(0))), told(0, Asks, Asks, 0, Asks))
+	x.Do(0) // task 0 begins Exit, whose first act is a Store
+	s, _ := look(p, x)
+	is(t, "no Raise", told(s.due, s.raises), told(0, false))
+	x.Do(0)
+	s, _ = look(p, x)
+	is(t, "Raise", told(s.due, s.raises), told(0, true))
+}
+
 func TestP3904Run(t *testing.T) {
 	run := func(c api.Config, choices []int) string { return fmt.Sprint(Run(c, choices)) }
 	c := waiting(api.Call{Kind: api.Sleep, N: 9}, nil, nil)
+	// With clauses that are false now and then: only steps of tasks count, only the first one of them is told.
+	for _, v := range []struct {
+		from int
+		want string
+	}{{0, "0 3"}, {2, "2 3"}, {3, "8 3"}, {99, "0 0"}} {
+		x, _ := core.New(c)
+		step, clause := search(x, []int{0, -7, 0, 0, 0, 0, 0, 0, 0, 0, 0, 0}, func() int {
+			if x.Steps() < v.from {
+				return 0
+			}
+			return 3
+		})
+		is(t, "first", fmt.Sprint(step, clause), v.want)
+	}
 	is(t, "Run", told(run(c, make([]int, 50)), run(c, nil), run(api.Config{}, make([]int, 5)), run(c, []int{-1, 99, 0})), told("0 0", "0 0", "0 0", "0 0"))
 }
 

@@ -67,7 +67,9 @@ func TestP3602Tries(t *testing.T) {
 	load := func(step int, got uint32) core.Event {
 		return core.Event{Kind: core.Does, Step: step, Act: api.Act{Op: api.Load}, Got: got}
 	}
-	cut := []core.Event{{Kind: core.Begins, Call: recv}, load(1, 0), {Kind: core.Begins, Step: 2, Call: recv}, load(3, 0), {Kind: core.Does, Step: 4}, load(5, 0), {Kind: core.Begins, Step: 6, Call: api.Call{Kind: api.Yield}}, load(7, 0)}
+	cut := []core.Event{{Kind: core.Begins, Call: recv}, load(1, 0), {Kind: core.Begins, Step: 2, Call: recv}, load(3, 0), {Kind: core.Does, Step: 4}, load(5, 0), {Kind: core.Begins, Step: 6, Call: api.Call{Kind: api.Yield}}, load(7, 0), load(8, 0), load(9, 0)}
+	once := []core.Event{{Kind: core.Begins, Call: api.Call{Kind: api.Get, Obj: 1}}, load(1, 6), load(2, 0), load(3, 0), load(4, 0)}
+	is(t, "no try behind one that succeeds", Tries(waits(), once), []api.Op{{Call: api.Call{Kind: api.Get, Obj: 1}, Done: true, End: 1, Result: api.Result{V: api.Value{6}}}})
 	is(t, "cut off", Tries(waits(), cut), []api.Op{{Call: recv}, {Index: 1, Call: recv, Begin: 2, Done: true, End: 5, Result: api.Result{F: api.Empty}}})
 }
 
