@@ -158,7 +158,7 @@ func TestP3204AsksAnswerTries(t *testing.T) {
 	x.Take(0)
 	is(t, "from the Store on", told(asks(x), x.Tries()), told("{15 0 0 3 0} true", 1))
 	x.Take(0)
-	is(t, "behind the Raise", told(asks(x), x.Answer(task.Answer{Woken: true, Left: 2}), asks(x), x.Answer(task.Answer{}), x.Tries()), told("{15 0 0 3 0} true", true, none, false, 1))
+	is(t, "behind the Raise", told(asks(x), x.Answer(task.Answer{Woken: true, Left: 2}), asks(x), x.Answer(task.Answer{}), x.Tries()), told("{15 0 0 3 0} true", true, none, false, 2))
 	run(m, x)
 	is(t, "second try", told(asks(x), x.Tries()), told("{15 0 0 2 0} true", 2))
 	x.Answer(task.Answer{})

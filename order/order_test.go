@@ -76,7 +76,7 @@ func TestP4201OfLevel(t *testing.T) {
 }
 
 func TestP4202WaitsFulls(t *testing.T) {
-	l := []Post{{Level: 1, Done: -1}, {Level: 1, Done: 5}, {Level: 1, Done: -1, F: api.Full}, {Level: 2, Done: -1}, {Level: 2, Done: -1, F: api.Full}, {Level: 1, Done: -1, F: api.Full}}
+	l := []Post{{Level: 1, Done: -1}, {Level: 1, Done: 5}, {Level: 1, Done: 9}, {Level: 1, Done: -1, F: api.Full}, {Level: 2, Done: -1}, {Level: 2, Done: -1, F: api.Full}, {Level: 1, Done: -1, F: api.Full}}
 	is(t, "Waits", told(Waits(l), Waits(nil)), told(2, 0))
 	is(t, "Fulls", told(Fulls(l, 1), Fulls(l, 2), Fulls(l, 0), Fulls(nil, 1)), told(2, 1, 0, 0))
 }

@@ -136,6 +136,8 @@ func TestClauses(t *testing.T) {
 	c := waiting(api.Call{Kind: api.WaitAny, Obj: 1, V: api.Value{2}, N: 9}, nil, nil)
 	p, _ := plan.Of(c)
 	x := to(c, 10)
+	done := to(api.Config{Tasks: make([]api.Task, 1)}, 30)
+	is(t, "nobody is ready", told(Quiet(api.Config{Tasks: make([]api.Task, 1)}, done), dueOf(done)), told(0, "-1 false"))
 	is(t, "task 0 is due, task 1 waits", told(dueOf(x), Quiet(c, x)), told("0 true", 0))
 	first := func(due int, raises bool, change func(words []uint32)) int {
 		words := x.Words()
