@@ -77,6 +77,8 @@ func TestP3402ActTake(t *testing.T) {
 	m.Store(14, 1)
 	is(t, "no request", turn(d, m, none), "true: load 14; store 14 0; load 13; "+lines+"none; ")
 	m.Store(14, 1)
+	is(t, "an ask that panics", turn(d, m, func(int) (sched.Request, bool) { panic("ask") }), "true: load 14; store 14 0; load 13; "+lines+"none; ")
+	m.Store(14, 1)
 	is(t, "request", turn(d, m, asking(sched.Request{Kind: api.Sleep, Delay: 2})), "true: load 14; store 14 0 {1 0 13 0}; load 13; "+lines+"none {6 1 0 0}; ")
 	m.Store(15, 7)
 	is(t, "refused", turn(d, m, asking(sched.Request{Kind: api.Post, Obj: 9})), "true: load 15; store 15 0 {1 1 10 4}; load 13; "+lines+"none; ")

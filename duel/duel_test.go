@@ -35,6 +35,19 @@ func (e endless) Act() (api.Act, bool)       { return e.act, true }
 func (e endless) Take(uint32)                {}
 func (e endless) Result() (api.Result, bool) { return api.Result{F: api.Full}, false }
 
+// wild: a routine that panics at its third act.
+type wild struct{ acts int }
+
+func (w *wild) Act() (api.Act, bool) {
+	w.acts++
+	if w.acts > 2 {
+		panic("wild")
+	}
+	return api.Act{}, true
+}
+func (w *wild) Take(uint32)                {}
+func (w *wild) Result() (api.Result, bool) { return api.Result{}, true }
+
 // empty: a routine with neither an act nor a result.
 type empty struct{}
 
@@ -93,7 +106,7 @@ func TestP1602Alone(t *testing.T) {
 		want string
 	}{
 		{send(), 4, "{0 [0 0 0 0]} 4 true"}, {send(), math.MaxInt, "{0 [0 0 0 0]} 4 true"}, {send(), 3, "{0 [0 0 0 0]} 3 false"}, {send(), 0, "{0 [0 0 0 0]} 0 false"}, {send(), math.MinInt, "{0 [0 0 0 0]} 0 false"},
-		{Routine(places, api.Call{}), -5, "{1 [0 0 0 0]} 0 true"}, {nil, 9, "{0 [0 0 0 0]} 0 false"}, {empty{}, 9, "{0 [0 0 0 0]} 0 false"},
+		{Routine(places, api.Call{}), -5, "{1 [0 0 0 0]} 0 true"}, {nil, 9, "{0 [0 0 0 0]} 0 false"}, {&wild{}, 9, "{0 [0 0 0 0]} 2 false"}, {&wild{}, 1, "{0 [0 0 0 0]} 1 false"}, {empty{}, 9, "{0 [0 0 0 0]} 0 false"},
 		{endless{}, 1000, "{0 [0 0 0 0]} 1000 false"}, {endless{api.Act{Op: 99}}, 1000, "{0 [0 0 0 0]} 0 false"}, {endless{api.Act{Op: api.Load, At: 50}}, 1000, "{0 [0 0 0 0]} 0 false"},
 		{endless{api.Act{Op: api.Raise}}, 5, "{0 [0 0 0 0]} 0 false"},
 	} {

@@ -111,6 +111,8 @@ func TestP1303Now(t *testing.T) {
 	}
 	v, ok := Now(p, nil)
 	is(t, "no load", told(v, ok), told(api.Value{}, false))
+	v, ok = Now(p, func(at int) uint32 { panic(at) })
+	is(t, "a load that panics", told(v, ok), told(api.Value{}, false))
 	v, ok = Now(place(1), func(at int) uint32 { return uint32(at)*2 + 1 })
 	is(t, "lowest bits", told(v, ok), told(api.Value{19}, true))
 	for _, w := range wrong() {
