@@ -63,6 +63,23 @@ func TestP703CountCopy(t *testing.T) {
 	is(t, "nil", told(raised, merged, none.Copy() == nil), told(0, 0, true))
 }
 
+// TestCountKeeps: counting goes through the pending levels one by one, and they all stay pending.
+func TestCountKeeps(t *testing.T) {
+	var p Pend
+	is(t, "none", told(p.Count()), told(0, 0))
+	for k := range 32 {
+		p.Raise(k)
+		p.Raise(k)
+		is(t, "so far", told(p.Count()), told(k+1, k+1))
+	}
+	is(t, "all", told(p.Bits(), p.Top()), told(uint32(1<<32-1), 31))
+	for k := range 32 {
+		p.Take(k)
+		is(t, "taken ones count too", told(p.Count()), told(32, 32))
+	}
+	is(t, "none any more", told(p.Bits(), p.Top()), told(0, -1))
+}
+
 func TestP704Laws(t *testing.T) {
 	for k := range 32 {
 		var p Pend
