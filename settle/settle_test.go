@@ -9,6 +9,7 @@ import (
 	"bellrope/core"
 	"bellrope/plan"
 	"bellrope/sample"
+	"bellrope/site"
 )
 
 // is compares what is told of two values.
@@ -131,6 +132,128 @@ func TestP3903Quiet(t *testing.T) {
 	}
 }
 
+// raising returns a machine behind so many steps and the raising of a level, whose handler is about to raise level 0.
+func raising(t *testing.T, c api.Config, steps, level int) *core.Core {
+	t.Helper()
+	x := to(c, steps)
+	x.Raise(level)
+	for range 20 {
+		x.Step()
+		if _, next, busy := x.Now(-level); busy && next.Op == api.Raise {
+			return x
+		}
+	}
+	t.Fatal("no Raise of level ", level)
+	return nil
+}
+
+// TestP3903NobodyDue: a handler that is about to raise level 0 is not a task that is due, whatever its number.
+func TestP3903NobodyDue(t *testing.T) {
+	send := []api.Call{{Kind: api.Send}}
+	wait := []api.Call{{Kind: api.RecvWait, N: api.Forever}}
+	ring := func(from int) []api.Object {
+		return []api.Object{{Kind: api.Ring, Cap: 1, Width: 1, From: from, To: 0}}
+	}
+	for level := 1; level <= 3; level++ {
+		c := api.Config{Tasks: []api.Task{{Prio: 1, Code: wait}}, Levels: []api.Level{{Room: 1}, {Room: 1}, {Room: 1}}, Objects: ring(-level)}
+		c.Levels[level-1].Code = send
+		x := raising(t, c, 20, level)
+		what := fmt.Sprint("level ", level)
+		is(t, what, told(dueOf(x), Holds(c, x, 0), Quiet(c, x)), told("-1 false", true, Waits))
+		for range 3 {
+			x.Step()
+		}
+		is(t, what+" has raised level 0", told(dueOf(x), Holds(c, x, 0), Quiet(c, x)), told("-1 false", true, Waits))
+	}
+	// While task 1 is between its Store and its Raise, a handler is about to raise level 0 as well.
+	c := waiting(api.Call{Kind: api.Yield}, nil, []api.Call{{Kind: api.Set, Obj: 1, V: api.Value{1}}})
+	is(t, "task 1 is due and about to raise", told(dueOf(to(c, 2)), Quiet(c, to(c, 2))), told("1 true", 0))
+	x := raising(t, c, 2, 1)
+	is(t, "a request, and no task is due", told(dueOf(x), Quiet(c, x)), told("-1 false", Asks))
+	for range 2 {
+		x.Step()
+	}
+	is(t, "only the handler's Raise is over", told(dueOf(x), Quiet(c, x)), told("-1 false", Asks))
+}
+
+// direct returns the first clause of P3903 that is false, read from the machine alone.
+func direct(c api.Config, p plan.Plan, x *core.Core) int {
+	words, s := x.Words(), x.Sched()
+	task, about := Due(x)
+	if about {
+		_, next, _ := x.Now(task)
+		about = next.Op == api.Raise
+	}
+	for _, l := range p.Lines {
+		if words[site.Cell(l.Q, site.Head, 0, 0)] != words[site.Cell(l.Q, site.Tail, 0, 0)] {
+			return Lines
+		}
+	}
+	if words[p.Tick] != x.Seen() {
+		return Time
+	}
+	for other := range c.Tasks {
+		if !about && Holds(c, x, other) {
+			return Waits
+		}
+	}
+	if ready := append(s.Ready(), -1); ready[0] != s.Current() {
+		return First
+	}
+	for other, at := range p.Ask {
+		if words[at] != 0 && (!about || other != task) {
+			return Asks
+		}
+	}
+	return 0
+}
+
+// woken returns a configuration whose tasks wait, again and again, for what handlers do; samples are seldom like that.
+func woken() api.Config {
+	wait := api.Call{Kind: api.WaitAny, Obj: 1, V: api.Value{3}, N: 2}
+	set := api.Call{Kind: api.Set, Obj: 1, V: api.Value{1}}
+	return api.Config{
+		Tasks: []api.Task{
+			{Prio: 3, Loop: true, Code: []api.Call{{Kind: api.RecvWait, N: api.Forever}}},
+			{Prio: 2, Loop: true, Code: []api.Call{wait, {Kind: api.Clear, Obj: 1, V: api.Value{3}}}},
+			{Prio: 1, Loop: true, Code: []api.Call{{Kind: api.Sleep, N: 1}, set}},
+		},
+		Levels:  []api.Level{{Room: 1, Code: []api.Call{{Kind: api.Send}, set}}, {Room: 1, Code: []api.Call{set, {Kind: api.Tick}, {Kind: api.Post, Obj: 2}}}},
+		Objects: []api.Object{{Kind: api.Ring, Cap: 2, Width: 1, From: -1, To: 0}, {Kind: api.Flags}},
+		Ticker:  2,
+	}
+}
+
+// TestP3903Boundaries: Quiet, at all boundaries of many runs, is what the clauses say, whether a task is due or not.
+func TestP3903Boundaries(t *testing.T) {
+	handed := 0 // boundaries at which the handler of level 1 is about to raise level 0, and a wait is over
+	seen := map[int]int{}
+	follow := func(seed uint32, c api.Config) {
+		p, _ := plan.Of(c)
+		x, _ := core.New(c)
+		for at, choice := range sample.Choices(seed, len(c.Levels), 300) {
+			want, got := direct(c, p, x), Quiet(c, x)
+			if got != want {
+				t.Fatalf("seed %d, ahead of choice %d: %d, not %d", seed, at, got, want)
+			}
+			seen[got]++
+			_, next, _ := x.Now(-1)
+			if _, due := Due(x); !due && got == Waits && next.Op == api.Raise {
+				handed++
+			}
+			x.Do(choice)
+		}
+	}
+	for seed := range uint32(60) {
+		follow(seed, sample.Config(seed))
+		follow(seed, woken())
+	}
+	for clause := range Asks + 1 {
+		is(t, fmt.Sprint("clause ", clause, " occurs"), seen[clause] > 0, true)
+	}
+	is(t, "a handler that is about to raise occurs", handed > 0, true)
+}
+
 // TestClauses: each clause, for cells that no run has.
 func TestClauses(t *testing.T) {
 	c := waiting(api.Call{Kind: api.WaitAny, Obj: 1, V: api.Value{2}, N: 9}, nil, nil)
@@ -139,26 +262,26 @@ func TestClauses(t *testing.T) {
 	done := to(api.Config{Tasks: make([]api.Task, 1)}, 30)
 	is(t, "nobody is ready", told(Quiet(api.Config{Tasks: make([]api.Task, 1)}, done), dueOf(done)), told(0, "-1 false"))
 	is(t, "task 0 is due, task 1 waits", told(dueOf(x), Quiet(c, x)), told("0 true", 0))
-	first := func(due int, raises bool, change func(words []uint32)) int {
+	first := func(raiser int, change func(words []uint32)) int {
 		words := x.Words()
 		change(words)
-		s := &still{plan: p, seen: x.Seen(), sched: x.Sched(), due: due, raises: raises, word: func(at int) uint32 { return words[at] }}
+		s := &still{plan: p, seen: x.Seen(), sched: x.Sched(), raiser: raiser, word: func(at int) uint32 { return words[at] }}
 		return s.broken()
 	}
 	nothing := func([]uint32) {}
 	ask := func(task int) func([]uint32) { return func(w []uint32) { w[p.Ask[task]] = 1 } }
 	flag := func(w []uint32) { w[p.Places[1].At] = 6 }
-	is(t, "still", told(first(0, false, nothing), first(0, true, nothing), first(nobody, false, nothing)), told(0, 0, 0))
-	is(t, "lines", told(first(0, true, func(w []uint32) { w[p.Lines[0].Q.At]++; w[p.Tick]++ }), first(0, false, func(w []uint32) { w[p.Lines[0].Q.At+1]++ })), told(Lines, Lines))
-	is(t, "time", first(0, true, func(w []uint32) { w[p.Tick]++; flag(w) }), Time)
-	is(t, "waits", told(first(0, false, flag), first(0, true, flag)), told(Waits, 0))
-	is(t, "asks", told(first(0, true, ask(0)), first(0, false, ask(0)), first(0, true, ask(1)), first(1, true, ask(1)), first(nobody, false, ask(0))), told(0, Asks, Asks, 0, Asks))
+	is(t, "still", told(first(nobody, nothing), first(0, nothing)), told(0, 0))
+	is(t, "lines", told(first(0, func(w []uint32) { w[p.Lines[0].Q.At]++; w[p.Tick]++ }), first(nobody, func(w []uint32) { w[p.Lines[0].Q.At+1]++ })), told(Lines, Lines))
+	is(t, "time", first(0, func(w []uint32) { w[p.Tick]++; flag(w) }), Time)
+	is(t, "waits", told(first(nobody, flag), first(0, flag)), told(Waits, 0))
+	is(t, "asks", told(first(0, ask(0)), first(0, ask(1)), first(1, ask(1)), first(nobody, ask(0))), told(0, Asks, 0, Asks))
 	x.Do(0) // task 0 begins Exit, whose first act is a Store
 	s, _ := look(p, x)
-	is(t, "no Raise", told(s.due, s.raises), told(0, false))
+	is(t, "no Raise", told(dueOf(x), s.raiser), told("0 true", nobody))
 	x.Do(0)
 	s, _ = look(p, x)
-	is(t, "Raise", told(s.due, s.raises), told(0, true))
+	is(t, "Raise", told(dueOf(x), s.raiser), told("0 true", 0))
 }
 
 func TestP3904Run(t *testing.T) {
